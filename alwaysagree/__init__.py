@@ -1,0 +1,1 @@
+"""Alwaysagree: councils that come to agree, whatever the order of the days."""

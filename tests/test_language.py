@@ -35,6 +35,9 @@ BARRED_NODES = (
     ast.TryStar, ast.MatchMapping,
 )
 LIST_TAKERS = ("any", "all", "min", "max", "sum", "sorted")
+# What these give is gone through on the spot, by a loop or by one of the functions below.
+ITERATORS = ("range", "zip", "enumerate", "reversed")
+TAKERS = ("list", "tuple", "dict", "sorted", "sum", "any", "all", "enumerate", "zip", "min", "max")
 
 
 def files():
@@ -146,6 +149,17 @@ class TestCode(unittest.TestCase):
             for node in nodes(path, ast.Call):
                 if isinstance(node.func, ast.Name) and node.func.id in LIST_TAKERS:
                     self.assertFalse([part for part in node.args if isinstance(part, ast.GeneratorExp)], "L7")
+
+    def test_what_is_iterated_at_once(self):
+        for path in files():
+            taken = [node.iter for node in nodes(path, ast.For, ast.comprehension)]
+            for node in nodes(path, ast.Call):
+                if isinstance(node.func, ast.Name) and node.func.id in TAKERS:
+                    taken += node.args[:1]
+            for node in nodes(path, ast.Call):
+                if isinstance(node.func, ast.Name) and node.func.id in ITERATORS:
+                    place = (node.lineno, node.col_offset)
+                    self.assertIn(place, [(one.lineno, one.col_offset) for one in taken], f"L23, {path.name}")
 
     def test_strings(self):
         for path in files():

@@ -1,0 +1,160 @@
+"""Whether a council always agrees, told by the pairs of lots of minds that can hear apart from each other.
+
+A lot is an integer here: the bit at the index of each mind in it is set. A pair of lots is ordered here, so that it can
+be told which lot came to be which one; a pair and its reverse always go together, each by the same ways.
+
+A step leads from lots to their ears, so a row of steps goes back through the days: its first step is the last day.
+"""
+
+from alwaysagree.checks import has_twice
+from alwaysagree.councils import check_council, check_mind
+from alwaysagree.days import check_days, rows_after
+from alwaysagree.errors import InvalidName
+
+
+def lot_of(indexes):
+    """The lot of the minds with these indexes, all different."""
+    return sum([1 << at for at in indexes])
+
+
+def indexes_in(lot, many):
+    """The indexes of the minds in a lot, ascending, of so many minds in all."""
+    return tuple([at for at in range(many) if (lot >> at) & 1 == 1])
+
+
+def heard_by_each(rows):
+    """For each mind the lot of those that have a part above 0 in its row."""
+    return [lot_of([at for at, part in enumerate(row) if part > 0]) for row in rows]
+
+
+def ears(heard, lot):
+    """The ears of a lot, by what each mind hears."""
+    found = 0
+    for at in indexes_in(lot, len(heard)):
+        found = found | heard[at]
+    return found
+
+
+def steps_of(pair, ways):
+    """The steps from a pair of lots to pairs without a common mind, each with its way, by what each mind hears."""
+    one, other = pair
+    reached = [(way, (ears(heard, one), ears(heard, other))) for way, heard in enumerate(ways)]
+    return [(way, lots) for way, lots in reached if (lots[0] & lots[1]) == 0]
+
+
+def steps_from(pairs, ways):
+    """All pairs of lots that are reached from these ones, each with the steps from it."""
+    steps = {}
+    waiting = list(pairs)
+    while waiting:
+        pair = waiting.pop()
+        if pair not in steps:
+            steps[pair] = steps_of(pair, ways)
+            waiting.extend([lots for _, lots in steps[pair]])
+    return steps
+
+
+def pairs_of(lots):
+    """All pairs of these lots that have no mind in common."""
+    return [(one, other) for one in lots for other in lots if (one & other) == 0]
+
+
+def reached_pairs(many, ways):
+    """All reached pairs of so many minds, with the steps from them."""
+    return steps_from(pairs_of([lot_of([at]) for at in range(many)]), ways)
+
+
+def longest_row(steps):
+    """How many pairs stand in the longest row of steps; None if a row comes back to a pair where it was."""
+    left = steps
+    count = 0
+    while left:
+        # The last pairs of all rows are taken away, so each row gets shorter by one.
+        longer = {pair: left[pair] for pair in left if any([lots in left for _, lots in left[pair]])}
+        if len(longer) == len(left):
+            return None
+        left = longer
+        count += 1
+    return count
+
+
+def heard_by_ways(council):
+    """For each way of a council, for each mind, the lot that it hears."""
+    return [heard_by_each(way) for way in council.ways]
+
+
+def row_back(pair, steps, most):
+    """The ways of a shortest row of at most so many steps from a pair back to it; None if there is no such row."""
+    rows = {pair: ()}
+    ends = [pair]
+    for _ in range(most):
+        further = []
+        for end in ends:
+            for way, lots in steps[end]:
+                if lots == pair:
+                    return rows[end] + (way,)
+                if lots not in rows:
+                    rows[lots] = rows[end] + (way,)
+                    further.append(lots)
+        ends = further
+    return None
+
+
+def keeps_in(heard, lot):
+    """Whether a lot has its ears in itself alone."""
+    return (ears(heard, lot) | lot) == lot
+
+
+def check_lot(council, lot):
+    """Raises InvalidName for what is no tuple of different elements, and UnknownName for one with no name of a mind."""
+    if not isinstance(lot, tuple) or len(lot) == 0 or has_twice(lot):
+        raise InvalidName(lot)
+    for mind in lot:
+        check_mind(council, mind)
+
+
+def always_agrees(council):
+    """Whether a council always agrees."""
+    return days_needed(council) is not None
+
+
+def days_needed(council):
+    """The days needed; None if the council does not always agree."""
+    check_council(council)
+    # One day more than the steps of a row: so many as it has pairs.
+    return longest_row(reached_pairs(len(council), heard_by_ways(council)))
+
+
+def kept_apart(council):
+    """A word, and two lots of indexes of minds that it keeps apart; None if the council always agrees."""
+    check_council(council)
+    pairs = pairs_of(list(range(1, 1 << len(council))))
+    steps = steps_from(pairs, heard_by_ways(council))
+    found = None
+    # A shortest word is looked for, since words of more than twelve days are not taken as arguments.
+    most = len(pairs)
+    for pair in pairs:
+        row = row_back(pair, steps, most)
+        if row is not None:
+            found = (row[::-1], indexes_in(pair[0], len(council)), indexes_in(pair[1], len(council)))
+            most = len(row) - 1
+    return found
+
+
+def is_kept(council, word, one, other):
+    """Whether two lots of names of minds are kept apart by a word."""
+    check_council(council)
+    check_days(council, word)
+    check_lot(council, one)
+    check_lot(council, other)
+    if has_twice(one + other):
+        return False
+    heard = heard_by_each(rows_after(council, word))
+    lots = [lot_of([council.minds.index(mind) for mind in names]) for names in (one, other)]
+    return all([keeps_in(heard, lot) for lot in lots])
+
+
+def apart_pairs(council):
+    """How many unordered pairs of lots are reached."""
+    check_council(council)
+    return len(reached_pairs(len(council), heard_by_ways(council))) // 2

@@ -78,6 +78,11 @@ def longest_row(steps):
     return count
 
 
+def agree(many, ways):
+    """Whether so many minds always agree, by what each mind hears by each way."""
+    return longest_row(reached_pairs(many, ways)) is not None
+
+
 def heard_by_ways(council):
     """For each way of a council, for each mind, the lot that it hears."""
     return [heard_by_each(way) for way in council.ways]
@@ -115,7 +120,8 @@ def check_lot(council, lot):
 
 def always_agrees(council):
     """Whether a council always agrees."""
-    return days_needed(council) is not None
+    check_council(council)
+    return agree(len(council), heard_by_ways(council))
 
 
 def days_needed(council):

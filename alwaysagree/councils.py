@@ -54,9 +54,14 @@ def check_way(council, way):
         raise InvalidIndex(way)
 
 
+def is_mind(council, value):
+    """Whether this is the name of a mind of the council."""
+    return is_name(value) and value in council.minds
+
+
 def check_mind(council, mind):
     """Raises UnknownName for what is the name of no mind of the council."""
-    if not is_name(mind) or mind not in council.minds:
+    if not is_mind(council, mind):
         raise UnknownName(mind)
 
 

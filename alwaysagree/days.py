@@ -61,10 +61,19 @@ def weighed(weights, values):
     return sum([weight * value for weight, value in zip(weights, values)])
 
 
-def mean_of(thoughts, weights):
-    """The mean of thoughts with these weights, which may be of any size."""
+def means_of(thoughts, rows):
+    """The means of thoughts with the weights of each of these rows, which may be of any size.
+
+    With the rows of a way these are the thoughts a day later.
+    """
     tops, bottom = over_one_bottom(thoughts)
-    return lowest(weighed(weights, tops), bottom * sum(weights))
+    return tuple([lowest(weighed(row, tops), bottom * sum(row)) for row in rows])
+
+
+def spread_of(thoughts):
+    """The greatest thought less the least one."""
+    tops, bottom = over_one_bottom(thoughts)
+    return lowest(max(tops) - min(tops), bottom)
 
 
 def without_divisor(row):
@@ -118,7 +127,7 @@ def after(council, thoughts, word):
     check_council(council)
     check_thoughts(council, thoughts)
     check_word(council, word)
-    return tuple([mean_of(thoughts, row) for row in rows_after(council, word)])
+    return means_of(thoughts, rows_after(council, word))
 
 
 def shares(council, word):
@@ -141,8 +150,7 @@ def spread(thoughts):
     if not isinstance(thoughts, tuple) or len(thoughts) == 0:
         raise InvalidThoughts(None)
     check_fractions(thoughts)
-    tops, bottom = over_one_bottom(thoughts)
-    return lowest(max(tops) - min(tops), bottom)
+    return spread_of(thoughts)
 
 
 def mean(council, thoughts, weights):
@@ -151,4 +159,4 @@ def mean(council, thoughts, weights):
     check_thoughts(council, thoughts)
     if not is_row(weights, len(council)):
         raise InvalidNumber(weights)
-    return mean_of(thoughts, weights)
+    return means_of(thoughts, [weights])[0]

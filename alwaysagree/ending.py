@@ -1,8 +1,8 @@
 """What a council thinks in the end if a word is told over and over."""
 
-from alwaysagree.agreeing import heard_by_each, longest_row, reached_pairs
+from alwaysagree.agreeing import agree, heard_by_each
 from alwaysagree.councils import check_council
-from alwaysagree.days import check_days, check_thoughts, mean_of, minds_with_part, row_shares, rows_after
+from alwaysagree.days import check_days, check_thoughts, means_of, minds_with_part, row_shares, rows_after
 from alwaysagree.errors import NoEnd
 
 
@@ -39,7 +39,7 @@ def end_weights(rows):
 def settled(rows):
     """Whether a word settles, by the rows of the shares after it."""
     # Told over and over, the word is like the only way of a council.
-    return longest_row(reached_pairs(len(rows), [heard_by_each(rows)])) is not None
+    return agree(len(rows), [heard_by_each(rows)])
 
 
 def end_of(council, word):
@@ -69,7 +69,7 @@ def end_thought(council, thoughts, word):
     check_council(council)
     check_thoughts(council, thoughts)
     check_days(council, word)
-    return mean_of(thoughts, end_of(council, word))
+    return means_of(thoughts, [end_of(council, word)])[0]
 
 
 def leaders(council, word):

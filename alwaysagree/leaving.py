@@ -35,22 +35,18 @@ def left_of(rows):
     return max(gaps, default=0), sum(rows[0])
 
 
-def words_and_rows(council, many):
-    """All words with so many days, ascending, each one with the rows of the shares after it."""
-    found = [((), first_rows(len(council)))]
+def all_words(council, many, first, step):
+    """All words with so many days, ascending, each with what a step by the way of each day makes of the first."""
+    found = [((), first)]
     for _ in range(many):
-        found = [
-            (word + (at,), rows_after_day(rows, way))
-            for word, rows in found
-            for at, way in enumerate(council.ways)
-        ]
+        found = [(word + (at,), step(made, way)) for word, made in found for at, way in enumerate(council.ways)]
     return found
 
 
 def worst(council, many):
     """The greatest of what is left after all words with so many days, and the first word that leaves so much."""
     most, most_bottom, first = -1, 1, None
-    for word, rows in words_and_rows(council, many):
+    for word, rows in all_words(council, many, first_rows(len(council)), rows_after_day):
         top, bottom = left_of(rows)
         if top * most_bottom > most * bottom:
             most, most_bottom, first = top, bottom, word

@@ -18,6 +18,11 @@ SWAP = Council(("a", "b"), (((0, 1), (1, 0)),))
 RINGS = Council.read(
     "a b c d e f\n0,1,0,0,0,0 0,0,1,0,0,0 1,0,0,0,0,0 0,0,0,0,1,0 0,0,0,0,0,1 0,0,0,1,0,0\n"
     "0,1,0,0,0,0 0,0,1,0,0,0 0,0,0,1,0,0 0,0,0,0,1,0 0,0,0,0,0,1 1,0,0,0,0,0")
+# Six minds with names of eight signs, and six ways with the greatest weights.
+GREAT = Council(
+    tuple([f"mind{at}xyz" for at in range(6)]),
+    tuple([tuple([tuple([MOST_WEIGHT if (own * (way + 1) + other) % 6 < 3 else 0 for other in range(6)]) for own in range(6)])
+           for way in range(6)]))
 # Councils that always agree, with the days that they need.
 SLOW = (
     (Council.read("a b c\n0,1,0 1,0,1 1,0,0\n1,1,0 0,0,1 1,0,0"), 5),
@@ -178,10 +183,40 @@ def reached(council):
 
 def days_till_no_pair_is_left(council):
     """The least number of days after which no pair of single minds has sources without a common one; None if none is."""
-    pairs = single_pairs(council)
-    # A row of steps that comes back to no pair has less steps than there are pairs of lots, with six minds 301.
-    for days in range(302):
+    pairs, seen = single_pairs(council), []
+    while pairs not in seen:
         if not pairs:
-            return days
+            return len(seen)
+        seen.append(pairs)
         pairs = steps_from(council, pairs)
     return None
+
+
+def ring(many):
+    """Minds that hear the next one in a ring by the first way, and themselves but for one of them by the second one.
+
+    Its voices need very long words.
+    """
+    def rows(heard):
+        return tuple([tuple([int(other == own) for other in range(many)]) for own in heard])
+    turn = [(at - 1) % many for at in range(many)]
+    return Council(NAMES[:many], (rows(turn), rows([0 if at == 1 else at for at in range(many)])))
+
+
+def reached_by(council, mind, word):
+    """The indexes of the minds of which a mind, by its index, is a source after a word of any length."""
+    return tuple([at for at, found in enumerate(sources_after(council, word)) if mind in found])
+
+
+def with_ears(council, ears):
+    """The council with these ears more, triples of a way and two names of minds, with the weight 1."""
+    ways = [[list(row) for row in way] for way in council.ways]
+    for way, mind, other in ears:
+        ways[way][council.minds.index(mind)][council.minds.index(other)] = 1
+    return Council(council.minds, tuple([tuple([tuple(row) for row in way]) for way in ways]))
+
+
+def missing_ears(council):
+    """All triples of a way and two names of minds of which the first one does not hear the second one by the way."""
+    return [(at, mind, other) for at, way in enumerate(council.ways) for mind, row in zip(council.minds, way)
+            for other, weight in zip(council.minds, row) if weight == 0]

@@ -12,10 +12,15 @@ from alwaysagree.errors import (
     InvalidName, InvalidNumber, InvalidThoughts, InvalidWord, NoDays, NotACouncil, TooMany, UnknownName,
 )
 from alwaysagree.leaving import farthest, left_after, worst_left, worst_word
+from alwaysagree.mending import doubtful, mending, telling_doubt
+from alwaysagree.sessions import Session
+from alwaysagree.telling import alike, ask, fitting, words_between
+from alwaysagree.voicing import reached, voice_word, voices
 from tests.kinds import EqualsAll, EqualsNone, all_kinds, deep, other_kinds
 from tests.talks import BAD
 from tests.test_days import NO_FRACTIONS
 from tests.test_leaving import NO_NUMBERS_OF_DAYS
+from tests.test_mending import DOUBTS, OFFERS, wrong_doubts, wrong_offers
 
 # Each function with the parameters of the document, in order; `days` is a word of one day or more.
 SIGNATURES = {
@@ -36,7 +41,19 @@ SIGNATURES = {
     end_shares: ("council", "days"),
     end_thought: ("council", "thoughts", "days"),
     leaders: ("council", "days"),
+    voice_word: ("council", "mind"),
+    voices: ("council",),
+    reached: ("council", "mind", "word"),
+    mending: ("council", "offers"),
+    doubtful: ("council", "doubts"),
+    telling_doubt: ("council", "doubts"),
+    fitting: ("council", "thoughts", "later"),
+    words_between: ("council", "thoughts", "later", "many"),
+    alike: ("council",),
+    ask: ("council",),
 }
+# What these make is equal to itself alone.
+MAKERS = {Session: ("council", "thoughts")}
 # No index of a way of BAD, wherever it stands.
 NO_INDEXES = other_kinds() + [3, 4, -1, -3, 10 ** 79, -(10 ** 79), "", "0", (), (0,), deep(99)]
 RIGHT = {
@@ -49,6 +66,9 @@ RIGHT = {
     "many": [0, 1, 6],
     "one": [("ann",), ("cyd", "bob")],
     "other": [("bob",), ("ann", "cyd")],
+    "later": [((3, 1), (6, 1), (9, 1)), ((-1, 2), (10 ** 29, 3), (0, 1))],
+    "offers": [(), (("strike", 2),), OFFERS],
+    "doubts": [(), DOUBTS[:2], DOUBTS],
 }
 
 
@@ -99,6 +119,9 @@ WRONG = {
     "many": [(value, InvalidNumber, value) for value in NO_NUMBERS_OF_DAYS] + [(7, TooMany, 3 ** 7), (12, TooMany, 3 ** 12)],
     "one": wrong_lots(),
     "other": wrong_lots(),
+    "later": wrong_thoughts(),
+    "offers": wrong_offers(),
+    "doubts": wrong_doubts(),
 }
 # Some of the wrong values, for arguments behind the first wrong one.
 SOME = {
@@ -111,6 +134,9 @@ SOME = {
     "many": [-1, True, 12],
     "one": [(), ("zed",)],
     "other": [(), ("zed",)],
+    "later": [None, ((0, 1), (1, 2), (2, 4))],
+    "offers": [None, (("strike", 3),)],
+    "doubts": [None, ((2, "ann", "ann"),)],
 }
 
 
@@ -137,7 +163,7 @@ class TestArguments(unittest.TestCase):
                 self.assertIs(caught.exception.given, kept)
 
     def test_the_names_of_the_parameters(self):
-        for ask, names in SIGNATURES.items():
+        for ask, names in {**SIGNATURES, **MAKERS}.items():
             found = inspect.signature(ask).parameters.values()
             self.assertEqual([one.name for one in found], [name.replace("days", "word") for name in names])
             self.assertTrue(all([one.default is one.empty for one in found]))
@@ -151,7 +177,7 @@ class TestArguments(unittest.TestCase):
                     self.assertEqual(told, told[:1] * 4)
 
     def test_each_wrong_value(self):
-        for ask, names in SIGNATURES.items():
+        for ask, names in {**SIGNATURES, **MAKERS}.items():
             right = tuple([RIGHT[name][-1] for name in names])
             for at, name in enumerate(names):
                 for value, error, kept in WRONG[name]:
@@ -159,7 +185,7 @@ class TestArguments(unittest.TestCase):
                         self.refused(ask, right[:at] + (value,) + right[at + 1:], error, kept)
 
     def test_the_first_of_several_wrong_values(self):
-        for ask, names in SIGNATURES.items():
+        for ask, names in {**SIGNATURES, **MAKERS}.items():
             right = tuple([RIGHT[name][0] for name in names])
             for at, name in enumerate(names[:-1]):
                 behind = list(itertools.product(*[SOME[other] + RIGHT[other][:1] for other in names[at + 1:]]))
@@ -180,7 +206,9 @@ class TestArguments(unittest.TestCase):
     def test_each_function_is_defined_in_its_file(self):
         places = {"days": (after, shares, sources, spread, mean), "leaving": (left_after, farthest, worst_left, worst_word),
                   "agreeing": (always_agrees, days_needed, kept_apart, is_kept, apart_pairs),
-                  "ending": (settles, end_shares, end_thought, leaders)}
+                  "ending": (settles, end_shares, end_thought, leaders), "voicing": (voice_word, voices, reached),
+                  "mending": (mending, doubtful, telling_doubt), "telling": (fitting, words_between, alike, ask),
+                  "sessions": (Session,)}
         for place, functions in places.items():
             for function in functions:
                 self.assertEqual(function.__module__, f"alwaysagree.{place}")

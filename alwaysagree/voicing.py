@@ -1,0 +1,58 @@
+"""Which minds can come to be heard by all, and by which words.
+
+A mind is followed through the days here: from the lot of those that it has reached to all who hear some of them.
+"""
+
+from alwaysagree.agreeing import ears, heard_by_each
+from alwaysagree.councils import check_council, check_mind
+from alwaysagree.days import check_word
+
+
+def listeners_by_ways(council):
+    """For each way of a council, for each mind, the lot of those that hear it."""
+    return [heard_by_each(list(zip(*way))) for way in council.ways]
+
+
+def word_to_all(own, listeners, many):
+    """The first one of the shortest words by which the mind at an index reaches all of so many; None if none does."""
+    everyone = (1 << many) - 1
+    words = {1 << own: ()}
+    ends = [1 << own]
+    # The ends stand in the order of their words, so the first word to a lot is the first one of its length.
+    while ends and everyone not in words:
+        further = []
+        for end in ends:
+            for way, heard_by in enumerate(listeners):
+                lot = ears(heard_by, end)
+                if lot not in words:
+                    words[lot] = words[end] + (way,)
+                    further.append(lot)
+        ends = further
+    return words.get(everyone)
+
+
+def voice_word(council, mind):
+    """The shortest word after which a mind is a source of all, the first one of these; None if there is none."""
+    check_council(council)
+    check_mind(council, mind)
+    return word_to_all(council.minds.index(mind), listeners_by_ways(council), len(council))
+
+
+def voices(council):
+    """The minds that are, each after some word, a source of all minds, in order."""
+    check_council(council)
+    listeners = listeners_by_ways(council)
+    words = [word_to_all(at, listeners, len(council)) for at in range(len(council))]
+    return tuple([mind for mind, word in zip(council.minds, words) if word is not None])
+
+
+def reached(council, mind, word):
+    """The minds of which a mind is a source after a word, in order."""
+    check_council(council)
+    check_mind(council, mind)
+    check_word(council, word)
+    listeners = listeners_by_ways(council)
+    lot = 1 << council.minds.index(mind)
+    for way in word:
+        lot = ears(listeners[way], lot)
+    return tuple([name for at, name in enumerate(council.minds) if (lot >> at) & 1 == 1])

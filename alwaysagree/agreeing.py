@@ -8,7 +8,7 @@ A step leads from lots to their ears, so a row of steps goes back through the da
 
 from alwaysagree.checks import has_twice
 from alwaysagree.councils import check_council, check_mind
-from alwaysagree.days import check_days, rows_after
+from alwaysagree.days import check_days
 from alwaysagree.errors import InvalidName
 
 
@@ -20,6 +20,11 @@ def lot_of(indexes):
 def indexes_in(lot, many):
     """The indexes of the minds in a lot, ascending, of so many minds in all."""
     return tuple([at for at in range(many) if (lot >> at) & 1 == 1])
+
+
+def minds_in(council, lot):
+    """The names of the minds of a council that are in a lot, in order."""
+    return tuple([council.minds[at] for at in indexes_in(lot, len(council))])
 
 
 def heard_by_each(rows):
@@ -105,9 +110,22 @@ def row_back(pair, steps, most):
     return None
 
 
-def keeps_in(heard, lot):
-    """Whether a lot has its ears in itself alone."""
-    return (ears(heard, lot) | lot) == lot
+def keeps_in(word, ways, lot):
+    """Whether after a word all sources of a lot are in the lot, by what each mind hears by each way."""
+    found = lot
+    # What a mind hears on the last day are thoughts of the day before, and so on back to the first day.
+    for way in word[::-1]:
+        found = ears(ways[way], found)
+    return (found | lot) == lot
+
+
+def keeps_apart(council, word, one, other):
+    """Whether two tuples of names of minds, all of them different, are kept apart by a word, of any number of days."""
+    if has_twice(one + other):
+        return False
+    ways = heard_by_ways(council)
+    lots = [lot_of([council.minds.index(mind) for mind in names]) for names in (one, other)]
+    return all([keeps_in(word, ways, lot) for lot in lots])
 
 
 def check_lot(council, lot):
@@ -153,11 +171,7 @@ def is_kept(council, word, one, other):
     check_days(council, word)
     check_lot(council, one)
     check_lot(council, other)
-    if has_twice(one + other):
-        return False
-    heard = heard_by_each(rows_after(council, word))
-    lots = [lot_of([council.minds.index(mind) for mind in names]) for names in (one, other)]
-    return all([keeps_in(heard, lot) for lot in lots])
+    return keeps_apart(council, word, one, other)
 
 
 def apart_pairs(council):

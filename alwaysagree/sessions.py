@@ -12,28 +12,28 @@ from alwaysagree.errors import InvalidName, InvalidThoughts, NothingToUndo
 
 
 class Kept:
-    """What a session was when a block began, and what it was when the blocks around this one began."""
+    """What was there when a block began, and what was kept for the blocks around this one."""
 
     def __init__(self, states, before):
         self.states = states
         self.before = before
 
 
-class SessionTrial:
-    """For a `with` statement: behind the block the session is as it was when the block began."""
+class Trial:
+    """For a `with` statement: behind the block what it is held for has the states that it had when the block began."""
 
-    def __init__(self, session):
-        self._session = session
+    def __init__(self, held):
+        self._held = held
         # A trial may be used for a block within its own block, so what was kept before is not lost.
         self._kept = None
 
     def __enter__(self):
-        self._kept = Kept(self._session._states, self._kept)
-        return self._session
+        self._kept = Kept(self._held._states, self._kept)
+        return self._held
 
     def __exit__(self, kind, value, trace):
-        session = self._session
-        session._states = self._kept.states
+        held = self._held
+        held._states = self._kept.states
         self._kept = self._kept.before
 
 
@@ -104,7 +104,7 @@ class Session:
 
     def trial(self):
         """For a `with` statement: behind the block the session is as it was when the block began."""
-        return SessionTrial(self)
+        return Trial(self)
 
     def tried(self, action):
         """What a function returns for the session; behind the call the session is as it was ahead of it."""

@@ -3,7 +3,7 @@
 A mind is followed through the days here: from the lot of those that it has reached to all who hear some of them.
 """
 
-from alwaysagree.agreeing import ears, heard_by_each
+from alwaysagree.agreeing import ears, heard_by_each, lot_of, minds_in
 from alwaysagree.councils import check_council, check_mind
 from alwaysagree.days import check_word
 
@@ -15,9 +15,9 @@ def listeners_by_ways(council):
 
 def word_to_all(own, listeners, many):
     """The first one of the shortest words by which the mind at an index reaches all of so many; None if none does."""
-    everyone = (1 << many) - 1
-    words = {1 << own: ()}
-    ends = [1 << own]
+    everyone = lot_of(list(range(many)))
+    words = {lot_of([own]): ()}
+    ends = [lot_of([own])]
     # The ends stand in the order of their words, so the first word to a lot is the first one of its length.
     while ends and everyone not in words:
         further = []
@@ -29,6 +29,14 @@ def word_to_all(own, listeners, many):
                     further.append(lot)
         ends = further
     return words.get(everyone)
+
+
+def lot_reached(own, listeners, word):
+    """The lot of the minds of which the mind at an index is a source after a word of any length."""
+    lot = lot_of([own])
+    for way in word:
+        lot = ears(listeners[way], lot)
+    return lot
 
 
 def voice_word(council, mind):
@@ -51,8 +59,5 @@ def reached(council, mind, word):
     check_council(council)
     check_mind(council, mind)
     check_word(council, word)
-    listeners = listeners_by_ways(council)
-    lot = 1 << council.minds.index(mind)
-    for way in word:
-        lot = ears(listeners[way], lot)
-    return tuple([name for at, name in enumerate(council.minds) if (lot >> at) & 1 == 1])
+    lot = lot_reached(council.minds.index(mind), listeners_by_ways(council), word)
+    return minds_in(council, lot)

@@ -18,11 +18,11 @@ SWAP = Council(("a", "b"), (((0, 1), (1, 0)),))
 RINGS = Council.read(
     "a b c d e f\n0,1,0,0,0,0 0,0,1,0,0,0 1,0,0,0,0,0 0,0,0,0,1,0 0,0,0,0,0,1 0,0,0,1,0,0\n"
     "0,1,0,0,0,0 0,0,1,0,0,0 0,0,0,1,0,0 0,0,0,0,1,0 0,0,0,0,0,1 1,0,0,0,0,0")
-# Six minds with names of eight signs, and six ways with the greatest weights.
+# Six minds with names of eight signs, and six ways with great weights, the greatest one among them.
 GREAT = Council(
     tuple([f"mind{at}xyz" for at in range(6)]),
-    tuple([tuple([tuple([MOST_WEIGHT if (own * (way + 1) + other) % 6 < 3 else 0 for other in range(6)]) for own in range(6)])
-           for way in range(6)]))
+    tuple([tuple([tuple([MOST_WEIGHT - 5 * own - other - way if (own * (way + 1) + other) % 6 < 3 else 0
+                         for other in range(6)]) for own in range(6)]) for way in range(6)]))
 # Councils that always agree, with the days that they need.
 SLOW = (
     (Council.read("a b c\n0,1,0 1,0,1 1,0,0\n1,1,0 0,0,1 1,0,0"), 5),
@@ -32,6 +32,14 @@ SLOW = (
                   "0,1,0,0,0 0,0,1,0,0 0,0,0,1,0 0,1,0,0,1 1,0,0,0,0"), 21),
     (Council.read("a b c d e f\n0,1,0,0,0,0 0,0,0,0,1,1 0,1,0,0,0,1 0,0,0,1,0,0 1,0,0,0,0,0 0,0,0,1,0,0\n"
                   "0,1,1,0,0,0 0,0,1,0,0,0 0,0,0,1,0,0 0,0,0,0,1,0 0,0,0,0,0,1 1,0,0,0,0,0"), 31),
+)
+
+# Councils that do not always agree; the shortest words that keep lots apart have 20 days and 18.
+LONG = (
+    Council.read("a b c d e f\n0,0,0,0,0,1 0,0,0,0,1,0 1,0,0,0,0,0 0,1,0,0,0,0 0,1,1,1,0,1 0,1,1,0,1,0\n"
+                 "0,0,0,1,0,0 1,0,1,0,0,1 0,1,0,0,0,0 0,0,0,0,1,0 0,0,1,0,0,0 1,0,0,0,0,0"),
+    Council.read("a b c d e f\n0,0,0,0,0,1 0,0,1,0,0,0 0,0,0,0,1,0 1,0,0,0,0,0 0,0,1,1,1,1 0,1,0,1,1,0\n"
+                 "0,0,0,0,1,0 0,0,0,1,0,0 0,0,0,1,0,0 1,1,0,0,1,1 0,1,0,0,0,0 1,0,0,0,0,0"),
 )
 
 

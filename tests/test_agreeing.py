@@ -9,7 +9,7 @@ from alwaysagree.errors import InvalidName, InvalidWord, NoDays, UnknownName
 from alwaysagree.limits import MOST_WEIGHT
 from tests.kinds import EqualsAll, EqualsNone, all_kinds, other_kinds
 from tests.talks import (
-    BAD, DUO, GOOD, NAMES, ONE, RINGS, SLOW, SWAP, all_share, days_after_which_all_share, days_till_no_pair_is_left,
+    BAD, DUO, GOOD, LONG, NAMES, ONE, RINGS, SLOW, SWAP, all_share, days_after_which_all_share, days_till_no_pair_is_left,
     drawn_councils, drawn_word, kept, named_councils, reached, small_councils, sources_after, words_of,
 )
 
@@ -159,6 +159,11 @@ class TestKeptApart(unittest.TestCase):
     def test_lots_that_change_places_need_the_word_twice(self):
         self.check(SWAP)
         self.assertEqual(kept_apart(SWAP)[0], (0, 0))
+
+    def test_words_of_more_than_twelve_days(self):
+        for council in LONG:
+            self.check(council)
+            self.assertGreater(len(kept_apart(council)[0]), 12)
 
     def test_one_day_is_enough_where_it_is(self):
         self.assertEqual(kept_apart(BAD)[0], (2,))

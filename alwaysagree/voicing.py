@@ -3,14 +3,14 @@
 A mind is followed through the days here: from the lot of those that it has reached to all who hear some of them.
 """
 
-from alwaysagree.agreeing import ears, heard_by_each, lot_of, minds_in
+from alwaysagree.agreeing import ears_by_ways, heard_by_each, lot_of, minds_in
 from alwaysagree.councils import check_council, check_mind
 from alwaysagree.days import check_word
 
 
 def listeners_by_ways(council):
-    """For each way of a council, for each mind, the lot of those that hear it."""
-    return [heard_by_each(list(zip(*way))) for way in council.ways]
+    """For each way of a council, at the index that is a lot, the lot of all minds that hear some of it."""
+    return ears_by_ways([heard_by_each(list(zip(*way))) for way in council.ways])
 
 
 def word_to_all(own, listeners, many):
@@ -22,8 +22,8 @@ def word_to_all(own, listeners, many):
     while ends and everyone not in words:
         further = []
         for end in ends:
-            for way, heard_by in enumerate(listeners):
-                lot = ears(heard_by, end)
+            for way, listeners_of in enumerate(listeners):
+                lot = listeners_of[end]
                 if lot not in words:
                     words[lot] = words[end] + (way,)
                     further.append(lot)
@@ -35,7 +35,7 @@ def lot_reached(own, listeners, word):
     """The lot of the minds of which the mind at an index is a source after a word of any length."""
     lot = lot_of([own])
     for way in word:
-        lot = ears(listeners[way], lot)
+        lot = listeners[way][lot]
     return lot
 
 

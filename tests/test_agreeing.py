@@ -1,5 +1,6 @@
 import itertools
 import random
+import sys
 import unittest
 
 from alwaysagree.agreeing import always_agrees, apart_pairs, days_needed, is_kept, kept_apart
@@ -168,6 +169,86 @@ class TestKeptApart(unittest.TestCase):
     def test_one_day_is_enough_where_it_is(self):
         self.assertEqual(kept_apart(BAD)[0], (2,))
         self.assertEqual(kept_apart(RINGS)[0], (0,))
+
+
+# For this council, which always agrees, kept_apart once went through all pairs of lots.
+MANY_PAIRS = Council.read(
+    "a b c d e f\n"
+    "1,0,0,0,0,0 1,0,0,0,0,0 0,1,0,0,0,0 0,0,1,0,0,0 0,0,0,1,0,0 0,0,0,0,1,0\n"
+    "1,0,0,0,0,0 1,1,0,0,0,0 0,1,1,0,0,0 0,0,1,1,0,0 0,0,0,1,1,0 0,0,0,0,1,1\n"
+    "1,0,0,0,0,0 1,0,0,0,0,0 1,1,0,0,0,0 1,0,1,0,0,0 1,0,0,1,0,0 1,0,0,0,1,0\n"
+    "1,0,0,0,0,0 1,1,0,0,0,0 1,0,1,0,0,0 0,1,0,1,0,0 0,0,1,0,1,0 0,0,0,1,0,1")
+
+
+def lines_run(function, *arguments):
+    """How many lines of Python a call runs: the same number each time, as its time is not."""
+    count = 0
+
+    def trace(frame, event, _):
+        nonlocal count
+        count += event == "line"
+        return trace
+    before = sys.gettrace()
+    sys.settrace(trace)
+    try:
+        function(*arguments)
+    finally:
+        sys.settrace(before)
+    return count
+
+
+class TestWork(unittest.TestCase):
+    def test_kept_apart_does_not_much_more_than_days_needed_where_the_council_always_agrees(self):
+        self.assertEqual([days_needed(MANY_PAIRS), kept_apart(MANY_PAIRS)], [5, None])
+        even = Council(NAMES, (((1,) * 6,) * 6,) * 6)
+        for council in [MANY_PAIRS, GOOD, even] + [council for council, _ in SLOW]:
+            self.assertIsNone(kept_apart(council))
+            self.assertLess(lines_run(kept_apart, council), 1.2 * lines_run(days_needed, council) + 50)
+
+    def test_where_it_does_not_one_day_is_looked_at_ahead_of_more(self):
+        for council in (BAD, RINGS, drawn_apart()):
+            self.assertEqual(len(kept_apart(council)[0]), 1)
+            self.assertLess(lines_run(kept_apart, council), 3 * lines_run(days_needed, council) + 500)
+
+    def test_the_answers_are_the_ones_that_they_were(self):
+        expected = [((2,), (0,), (1,)), ((0,), (0, 1, 2), (3, 4, 5)), ((0, 0), (0,), (1,)),
+                    ((0, 1, 0, 1, 1, 1, 1, 0, 1, 0, 0, 1, 0, 1, 1, 1, 1, 0, 1, 0), (0,), (1,)),
+                    ((1, 0, 0, 1, 1, 1, 0, 1, 0, 1, 0, 0, 1, 1, 1, 0, 1, 0), (0,), (1,))]
+        self.assertEqual([kept_apart(council) for council in (BAD, RINGS, SWAP) + LONG], expected)
+
+    def test_the_first_pair_of_lots_with_a_shortest_word(self):
+        many = 0
+        # Here a pair of lots comes back in three days, and one behind it in two.
+        sooner = [Council.read("a b c d e f\n" + text) for text in (
+            "0,0,0,0,0,1 0,0,0,0,1,0 1,0,0,0,0,0 1,0,0,0,0,0 1,0,0,0,1,0 0,0,1,0,0,0\n"
+            "0,0,0,1,0,0 0,0,1,0,0,0 0,0,1,0,0,0 0,0,1,0,0,0 0,1,0,0,1,1 1,0,0,0,0,0",
+            "0,1,0,0,0,0 0,0,0,0,0,1 0,0,0,0,1,0 0,0,1,0,0,0 0,0,0,0,0,1 0,1,0,0,0,0\n"
+            "0,1,0,0,0,0 0,0,0,1,0,0 1,1,1,0,1,0 0,1,0,0,0,0 0,0,0,1,0,0 1,0,0,0,0,0")]
+        self.assertEqual([kept_apart(council) for council in sooner], [((1, 0), (0,), (3,)), ((1, 1), (1,), (3,))])
+        for council in sooner + small_councils()[::3] + drawn_councils(42, 144, 4, 3, (1,)):
+            found = kept_apart(council)
+            if found is not None:
+                many += len(found[0]) > 1
+                self.assertEqual(found, first_kept(council))
+        self.assertGreater(many, 5)
+
+
+def drawn_apart():
+    """Six minds that hear themselves alone, by six ways."""
+    return Council(NAMES, (tuple([tuple([int(own == other) for other in range(6)]) for own in range(6)]),) * 6)
+
+
+def first_kept(council):
+    """The first pair of lots whose sources, after one of the shortest words that do so, are just these lots."""
+    lots = sorted(lots_of(council), key=lambda lot: sum([2 ** at for at in lot]))
+    for days in itertools.count(1):
+        words = sorted(words_of(council, days), key=lambda word: word[::-1])
+        for one, other in itertools.product(lots, repeat=2):
+            for word in words:
+                found = sources_after(council, word)
+                if not set(one) & set(other) and all(
+                        [frozenset().union(*[found[at] for at in lot]) == set(lot) for lot in (one, other)]):
+                    return word, one, other
 
 
 class TestApartPairs(unittest.TestCase):

@@ -101,6 +101,7 @@ class TestFiles(unittest.TestCase):
         for path in files():
             text = path.read_text("ascii")
             self.assertNotRegex(text, "_wall|_WallAttr", "L12")
+            self.assertNotRegex(text, r"\(type\)|Meta|metaclass=", "L17")
             for node in nodes(path, ast.Name, ast.arg, ast.Attribute, ast.FunctionDef, ast.ClassDef):
                 for field in ("id", "arg", "attr", "name"):
                     self.assertNotIn(getattr(node, field, None), BARRED_WORDS, "L17")
@@ -160,6 +161,25 @@ class TestCode(unittest.TestCase):
                 if isinstance(node.func, ast.Name) and node.func.id in ITERATORS:
                     place = (node.lineno, node.col_offset)
                     self.assertIn(place, [(one.lineno, one.col_offset) for one in taken], f"L23, {path.name}")
+
+    def test_the_ends_of_with_statements(self):
+        name, attribute = r"[a-z]\w*", r"[a-z]\w*(\.[a-z_]\w*)+"
+        for path in files():
+            for node in nodes(path, ast.FunctionDef):
+                if node.name == "__exit__":
+                    self.assertEqual([one.arg for one in node.args.args], ["self", "kind", "value", "trace"], "L6")
+                    for line in ast.unparse(node).split("\n")[1:]:
+                        self.assertRegex(line.strip(), f"^(if kind is not None:|{name} = self\\.\\w+|{attribute} = {attribute})$", "L6")
+
+    def test_classes_with_operators(self):
+        for path in files():
+            for node in nodes(path, ast.ClassDef):
+                methods = {one.name: one for one in node.body if isinstance(one, ast.FunctionDef)}
+                if "__getitem__" in methods:
+                    self.assertRegex(ast.unparse(methods["__iter__"].body[0]), r"^raise TypeError\(", "L5")
+                if "__len__" in methods:
+                    self.assertRegex(ast.unparse(methods["__len__"].body[-1]), r"^return len\(", "L28")
+                self.assertNotIn("keys", methods, "L5")
 
     def test_strings(self):
         for path in files():
